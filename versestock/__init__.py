@@ -1,0 +1,1 @@
+"""Lines made from a stock of words, that scan by a measure."""
