@@ -21,7 +21,7 @@ WORDS_NOWHERE = """type typing typing_extensions enum Enum IntEnum StrEnum Flag 
     namedtuple NamedTuple TypedDict TYPE_CHECKING abstractmethod""".split()
 STATEMENTS = (ast.Assign, ast.AugAssign, ast.If, ast.While, ast.For, ast.Return, ast.Break, ast.Continue, ast.Pass,
               ast.Raise, ast.Try, ast.FunctionDef, ast.ClassDef, ast.ImportFrom, ast.Expr)
-NOT_USED = (ast.GeneratorExp, ast.SetComp, ast.DictComp, ast.NamedExpr, ast.Starred, ast.Lambda, ast.Set, ast.Div,
+NOT_USED = (ast.GeneratorExp, ast.SetComp, ast.DictComp, ast.NamedExpr, ast.Starred, ast.Set, ast.Div,
             ast.Await, ast.Yield, ast.YieldFrom, ast.JoinedStr)
 
 

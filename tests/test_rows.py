@@ -2,6 +2,7 @@
 
 import random
 import unittest
+from unittest import mock
 
 from asking import all_answers, ask
 from plain import all_rows, line_scans, rows_that_scan
@@ -150,6 +151,19 @@ class WhatHoldsTest(unittest.TestCase):
         self.assertEqual(ask(measure, words, 11, begin + [9, 11]), [11] + begin + [10, 11])
         self.assertEqual(ask(measure, words, 11, begin + [10, 11]), [11] + begin + [11, 9])
         self.assertEqual(ask(measure, words[:11], 11), [0])
+
+    def test_all_rows_of_small_stocks_where_lines_are_narrow(self):
+        # Lines of 255 bytes need 11 words and more, too many for a plain search; so the limit is set lower here.
+        source = random.Random(3)
+        for trial in range(1500):
+            words = [some_word(source) for index in range(source.randint(2, 5))]
+            measure = some_measure(source)
+            limit = source.randint(3, 15)
+            wanted = [row for row in rows_that_scan(5, measure, words)
+                      if len(" ".join(words[number] for number in row)) <= limit]
+            with self.subTest(measure=measure, words=words, limit=limit):
+                with mock.patch("versestock.rows.LINE_ROOM", limit + 1):
+                    self.assertEqual(all_answers(measure, words, 5), wanted)
 
 
 class LargeTest(unittest.TestCase):

@@ -26,12 +26,20 @@ def sizes_of(words, most):
     return sizes
 
 
-# Lists of the numbers of words that may stand in for one another.
+# Lists of the numbers of words that may stand in for one another; the short words first, since what is completed with
+# these will do in less room.
 def groups_of(shapes, sizes):
     groups = {}
     for number, kind in enumerate(zip(shapes, sizes)):
         groups.setdefault(kind, []).append(number)
-    return list(groups.values())
+    return sorted(groups.values(), key=lambda group: sizes[group[0]])
+
+
+# What's known of the completions from one stand: one of them, and the most room that's too little for any.
+class Kept:
+    def __init__(self, numbers):
+        self.numbers = numbers
+        self.too_little = -1
 
 
 class Search:
@@ -63,7 +71,7 @@ class Search:
     # The least number, of those from least on, that row can go on with to become one that scans.
     def first_that_fits(self, row, least):
         stands = self.stands_of(row)
-        room = LINE_ROOM - sum([self.sizes[number] for number in row])
+        room = LINE_ROOM - self.size_of(row)
         for number in range(least, len(self.shapes)):
             if number not in row and self.fits(stands, number, room, row):
                 return number
@@ -90,19 +98,32 @@ class Search:
     # are none. To search anew for each list of barred words would take ages. So a completion is sought without a
     # care for them first; only the words for which it won't do are barred, and what's found is kept for all lists.
     def completion(self, stand, left, room, barred):
-        room = min(room, left * self.largest)
         shunned = []
         while True:
-            key = (stand, left, room, tuple(sorted(shunned)))
-            if key not in self.known:
-                self.known[key] = self.find_completion(stand, left, room, shunned)
-            numbers = self.known[key]
+            numbers = self.kept_completion(stand, left, room, shunned)
             if numbers is None:
                 return None
             clashes = [number for number in numbers if number in barred]
             if clashes == []:
                 return numbers
-            shunned = shunned + clashes[:1]
+            shunned = sorted(shunned + clashes[:1])
+
+    # What's found in some room is good in any that's not less than its size; where there's none, less won't do either.
+    def kept_completion(self, stand, left, room, barred):
+        key = (stand, left, tuple(barred))
+        if key not in self.known:
+            self.known[key] = Kept(self.find_completion(stand, left, left * self.largest, barred))
+        kept = self.known[key]
+        if kept.numbers is not None and kept.too_little < room < self.size_of(kept.numbers):
+            numbers = self.find_completion(stand, left, room, barred)
+            if numbers is None:
+                kept.too_little = room
+            else:
+                kept.numbers = numbers
+        return kept.numbers if room > kept.too_little else None
+
+    def size_of(self, numbers):
+        return sum([self.sizes[number] for number in numbers])
 
     # Words of one group do the same, so the first one that's free stands for all of them.
     def find_completion(self, stand, left, room, barred):
