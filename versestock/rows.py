@@ -1,5 +1,7 @@
 """Rows of words: the first one that scans behind another."""
 
+from versestock.completions import Completions
+from versestock.kinds import kinds_of, taken_by
 from versestock.scanning import Scanner
 from versestock.words import shape_of
 
@@ -26,31 +28,16 @@ def sizes_of(words, most):
     return sizes
 
 
-# Lists of the numbers of words that may stand in for one another; the short words first, since what is completed with
-# these will do in less room.
-def groups_of(shapes, sizes):
-    groups = {}
-    for number, kind in enumerate(zip(shapes, sizes)):
-        groups.setdefault(kind, []).append(number)
-    return sorted(groups.values(), key=lambda group: sizes[group[0]])
-
-
-# What's known of the completions from one stand: one of them, and the most room that's too little for any.
-class Kept:
-    def __init__(self, numbers):
-        self.numbers = numbers
-        self.too_little = -1
-
-
 class Search:
     def __init__(self, measure, words, most):
+        kinds = kinds_of([shape_of(word) for word in words], sizes_of(words, most), most)
         self.scanner = Scanner(measure)
+        self.completions = Completions(self.scanner, kinds)
         self.most = most
-        self.shapes = [shape_of(word) for word in words]
-        self.sizes = sizes_of(words, most)
-        self.largest = max(self.sizes)
-        self.groups = groups_of(self.shapes, self.sizes)
-        self.known = {}
+        self.kind_by_number = {}
+        for kind in kinds:
+            for number in kind.numbers:
+                self.kind_by_number[number] = kind
 
     # No row at all is [].
     def first_row_behind(self, after):
@@ -70,78 +57,42 @@ class Search:
 
     # The least number, of those from least on, that row can go on with to become one that scans.
     def first_that_fits(self, row, least):
+        if len(row) == self.most:
+            return None
         stands = self.stands_of(row)
-        room = LINE_ROOM - self.size_of(row)
-        for number in range(least, len(self.shapes)):
-            if number not in row and self.fits(stands, number, room, row):
+        for number in range(least, len(self.kind_by_number)):
+            if number not in row and self.fits(stands, row + [number]):
                 return number
         return None
 
-    def fits(self, stands, number, room, row):
+    # Whether the row, whose last word comes behind these stands, scans or can become one that does.
+    def fits(self, stands, row):
+        kinds = self.kinds_in(row)
+        room = LINE_ROOM - sum([kind.size for kind in kinds])
+        if room < 0:
+            return False
+        taken = taken_by(kinds)
         left = self.most - len(row)
-        return any([self.completion_with(stand, number, left, room, row) is not None for stand in stands])
+        for target in self.stands_behind(stands, kinds[-1]):
+            if self.completions.can_complete(target, taken, left, room):
+                return True
+        return False
 
     def scans(self, row):
         return any([self.scanner.is_end(stand) for stand in self.stands_of(row)])
 
+    def kinds_in(self, row):
+        return [self.kind_by_number[number] for number in row]
+
     def stands_of(self, row):
-        stands = {self.scanner.first_stand(): True}
-        for number in row:
-            behind = {}
-            for stand in stands:
-                for target in self.scanner.targets(stand, self.shapes[number]):
-                    behind[target] = True
-            stands = behind
-        return list(stands)
+        stands = [self.scanner.first_stand()]
+        for kind in self.kinds_in(row):
+            stands = self.stands_behind(stands, kind)
+        return stands
 
-    # Numbers of at most left words, none of them barred, that lead from stand to a row that scans; None if there
-    # are none. To search anew for each list of barred words would take ages. So a completion is sought without a
-    # care for them first; only the words for which it won't do are barred, and what's found is kept for all lists.
-    def completion(self, stand, left, room, barred):
-        shunned = []
-        while True:
-            numbers = self.kept_completion(stand, left, room, shunned)
-            if numbers is None:
-                return None
-            clashes = [number for number in numbers if number in barred]
-            if clashes == []:
-                return numbers
-            shunned = sorted(shunned + clashes[:1])
-
-    # What's found in some room is good in any that's not less than its size; where there's none, less won't do either.
-    def kept_completion(self, stand, left, room, barred):
-        key = (stand, left, tuple(barred))
-        if key not in self.known:
-            self.known[key] = Kept(self.find_completion(stand, left, left * self.largest, barred))
-        kept = self.known[key]
-        if kept.numbers is not None and kept.too_little < room < self.size_of(kept.numbers):
-            numbers = self.find_completion(stand, left, room, barred)
-            if numbers is None:
-                kept.too_little = room
-            else:
-                kept.numbers = numbers
-        return kept.numbers if room > kept.too_little else None
-
-    def size_of(self, numbers):
-        return sum([self.sizes[number] for number in numbers])
-
-    # Words of one group do the same, so the first one that's free stands for all of them.
-    def find_completion(self, stand, left, room, barred):
-        if self.scanner.is_end(stand):
-            return []
-        for group in self.groups:
-            free = [number for number in group if number not in barred]
-            if free != []:
-                numbers = self.completion_with(stand, free[0], left, room, barred)
-                if numbers is not None:
-                    return numbers
-        return None
-
-    def completion_with(self, stand, number, left, room, barred):
-        if left == 0 or self.sizes[number] > room:
-            return None
-        for target in self.scanner.targets(stand, self.shapes[number]):
-            numbers = self.completion(target, left - 1, room - self.sizes[number], barred + [number])
-            if numbers is not None:
-                return [number] + numbers
-        return None
+    def stands_behind(self, stands, kind):
+        behind = {}
+        for stand in stands:
+            for target in self.scanner.targets(stand, kind.shape):
+                behind[target] = True
+        return list(behind)

@@ -106,10 +106,17 @@ def shape_of(word):
     weights = [vowel_weight(vowel, cluster) for vowel, cluster in zip(vowels, clusters[1:])]
     begins = WITH_VOWEL if vowels and clusters[0] == "" else WITHOUT_VOWEL
     if vowels and clusters[-1] in ("", "m"):
-        passed_over = (WITH_VOWEL, lead, tuple(weights[:-1]))
-        whole = (WITHOUT_VOWEL, lead, tuple(weights))
+        passed_over = (WITH_VOWEL, lead, settled(weights[:-1]))
+        whole = (WITHOUT_VOWEL, lead, settled(weights))
         return (begins, (passed_over, whole))
-    return (begins, ((ANYHOW, lead, tuple(weights)),))
+    return (begins, ((ANYHOW, lead, settled(weights)),))
+
+
+# Consonants of the next word come to the last vowel alone; with the others none and one do the same, and words are
+# alike without that.
+def settled(weights):
+    inner = [max(weight, ONE_CONSONANT) for weight in weights[:-1]]
+    return tuple(inner + weights[-1:])
 
 
 # A long vowel is as heavy as can be, whatever consonants follow.
