@@ -82,6 +82,27 @@ def line_scans(measure, line):
     return False
 
 
+def line_scans_by_steps(measure, line):
+    """The same without trying every choice, for measures with many: foot by foot, how many syllables may be done."""
+    syllables = syllables_of(line)
+    feet, _, cuts = measure.partition(";")
+    for cut in cuts.split(","):
+        done = {0}
+        for number, foot in enumerate(feet.split("|"), start=1):
+            place = int(cut.split(".")[1]) if cut.split(".")[0] == str(number) else 0
+            done = {start + len(way) for start in done for way in foot.split(",")
+                    if way_fits(way, syllables[start:start + len(way)], place)}
+        if len(syllables) in done:
+            return len(line) <= 255
+    return False
+
+
+def way_fits(way, syllables, cut_place):
+    if len(way) != len(syllables) or not all(m in s[0] for m, s in zip(way, syllables)):
+        return False
+    return cut_place == 0 or (cut_place <= len(way) and syllables[cut_place - 1][1])
+
+
 def cut_is_met(cut, choice, syllables):
     foot, place = (int(digits) for digits in cut.split("."))
     if place > len(choice[foot - 1]):

@@ -5,6 +5,7 @@ import unittest
 from unittest import mock
 
 from asking import all_answers, ask
+from making import some_measure, some_word
 from plain import all_rows, line_scans, rows_that_scan
 
 ONE_TO_THREE = "u,uu,uuu"
@@ -81,19 +82,6 @@ class CornersTest(unittest.TestCase):
     def test_not_more_words_than_most(self):
         self.assertEqual(all_answers(ONE_TO_THREE, ["ba", "be", "bi"], 1), [[0], [1], [2]])
         self.assertEqual(ask("uuu", ["ba", "be", "bi"], 2), [0])
-
-
-def some_word(source):
-    signs = source.choice(["aeouAhm", "aeiouyAEqhmblrtx", "bhlrtmxzq", "abcdefghijklmnopqrstuvwxyzAEIOUY"])
-    return "".join(source.choice(signs) for index in range(source.randint(1, source.choice([1, 2, 3, 6]))))
-
-
-def some_measure(source):
-    feet = [",".join("".join(source.choice("-u") for place in range(source.randint(1, source.choice([1, 2, 4]))))
-                     for way in range(source.randint(1, 4)))
-            for foot in range(source.randint(1, source.choice([1, 2, 4])))]
-    cuts = [f"{source.randint(1, len(feet))}.{source.randint(1, 4)}" for cut in range(source.choice([0, 0, 1, 2, 3]))]
-    return "|".join(feet) + (";" + ",".join(cuts) if cuts else "")
 
 
 class WhatHoldsTest(unittest.TestCase):

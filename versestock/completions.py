@@ -44,12 +44,12 @@ class Known:
     def add_lack(self, lack):
         self.lacks = [other for other in self.lacks if not lack.covers(other)] + [lack]
 
-    # A completion, or the lack of one, or None if neither is known.
+    # A completion, or the lack of one, or None if neither is known. What was found last is the likeliest.
     def answer_where(self, taken, left, room):
-        for lack in self.lacks:
+        for lack in reversed(self.lacks):
             if lack.taken & taken == lack.taken and left <= lack.words and room <= lack.size:
                 return lack
-        for completion in self.completions:
+        for completion in reversed(self.completions):
             if completion.needs & taken == 0 and completion.words <= left and completion.size <= room:
                 return completion
         return None
