@@ -115,8 +115,9 @@ class TooFewSyllablesTest(HardTest):
 
     def test_eleven_unlike_words_and_many_that_are_too_short(self):
         measure = "|".join(["uu-,u--,-u-,---"] * 12)
-        long_ones = [head + vowel + tail for head in ("b", "bl", "st") for vowel in "iA" for tail in ("titas", "titant")]
-        short_ones = [head + "ita" + tail for head in ("b", "bl", "st", "") for tail in ("s", "nt", "")]
+        heads = ("b", "bl", "st")
+        long_ones = [head + vowel + "tita" + tail for head in heads for vowel in "iA" for tail in ("s", "nt")]
+        short_ones = [head + "ita" + tail for head in ("", *heads) for tail in ("s", "nt", "")]
         self.check_none(measure, short_ones + long_ones[:11])
         self.check_some(measure, short_ones + long_ones)
 

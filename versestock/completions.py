@@ -32,12 +32,10 @@ class Lack:
         return self.taken & other.taken == self.taken and self.words >= other.words and self.size >= other.size
 
 
-# What's known of the completions from one stand. Its steps, a list of (kind, what's known of a stand that a word of
-# that kind leads to), are None until they are asked for.
+# What's known of the completions from a stand, whose steps are (kind, stand that a word of that kind leads to).
 class Known:
-    def __init__(self, stand, is_complete):
-        self.stand = stand
-        self.steps = None
+    def __init__(self, steps, is_complete):
+        self.steps = steps
         self.completions = [Completion(0, 0, 0)] if is_complete else []
         self.lacks = []
 
@@ -65,23 +63,26 @@ class Completions:
         self.kinds = kinds
         self.runs = runs_of(kinds)
         self.known = {}
+        self.known_by_steps = {}
 
     # Whether at most left words, of at most the size room, none of them taken, lead from stand to a row that scans.
     def can_complete(self, stand, taken, left, room):
         return isinstance(self.answer(self.known_of(stand), taken, left, room), Completion)
 
+    # Stands with the same steps have the same completions, so what's known is known of all of them.
     def known_of(self, stand):
         if stand not in self.known:
-            self.known[stand] = Known(stand, self.scanner.is_end(stand))
+            key = (self.scanner.is_end(stand), self.steps_from(stand))
+            if key not in self.known_by_steps:
+                self.known_by_steps[key] = Known(key[1], key[0])
+            self.known[stand] = self.known_by_steps[key]
         return self.known[stand]
 
-    def steps_of(self, known):
-        if known.steps is None:
-            known.steps = []
-            for kind in self.kinds:
-                for target in self.scanner.targets(known.stand, kind.shape):
-                    known.steps.append((kind, self.known_of(target)))
-        return known.steps
+    def steps_from(self, stand):
+        steps = []
+        for number, kind in enumerate(self.kinds):
+            steps.extend([(number, target) for target in self.scanner.targets(stand, kind.shape)])
+        return tuple(steps)
 
     def answer(self, known, taken, left, room):
         found = known.answer_where(taken, left, room)
@@ -97,7 +98,8 @@ class Completions:
             return
         words = BOUNDLESS
         size = BOUNDLESS
-        for kind, target in self.steps_of(known):
+        for number, target in known.steps:
+            kind = self.kinds[number]
             if not kind.is_used_up(barred):
                 found = self.answer_with(kind, target, barred, left, room)
                 if isinstance(found, Completion):
@@ -111,7 +113,7 @@ class Completions:
     def answer_with(self, kind, target, barred, left, room):
         if kind.size > room:
             return Lack(barred, BOUNDLESS, kind.size - 1)
-        found = self.answer(target, kind.taken_with(barred), left - 1, room - kind.size)
+        found = self.answer(self.known_of(target), kind.taken_with(barred), left - 1, room - kind.size)
         if isinstance(found, Completion):
             return Completion(kind.needs_with(found.needs), found.words + 1, found.size + kind.size)
         return Lack(barred, found.words + 1, found.size + kind.size)

@@ -1,12 +1,14 @@
 """Where a row of words stands in a measure.
 
 A spot is (foot, place, rest, met): how many feet are done, how many places of the foot behind these, what is left of
-the way that's taken for it (nothing ahead of its first place), and whether a cut is met.
+the way that's taken for it (nothing ahead of its first place), and whether a cut is met. Once no cut is to be met in
+the foot any more, the place doesn't matter; it is set to the last one there may be, so that like spots are the same.
 
 A stand is (spot, weight, wants): the spot behind all syllables but the last one, which hangs on the words to come;
 that syllable's weight so far; and how the next word has to begin, if there is one.
 """
 
+from versestock.measures import MOST_PLACES
 from versestock.words import ANYHOW, WITH_VOWEL, joined_weight
 
 SPOT = 0
@@ -21,15 +23,13 @@ MARKS = ("u", "u", "-u", "-")
 EITHER_MARK = "-u"
 
 
-# Where nothing is left of the way, the foot is done.
-def spot_at(foot, place, rest, met):
-    return (foot + 1, 0, "", met) if rest == "" else (foot, place, rest, met)
-
-
 class Scanner:
     def __init__(self, measure):
         self.feet = measure.feet
         self.cuts = measure.cuts
+        self.last_cuts = {}
+        for foot, place in sorted(measure.cuts):
+            self.last_cuts[foot] = place
         self.end = (len(measure.feet), 0, "", True)
         self.known_targets = {}
 
@@ -80,9 +80,21 @@ class Scanner:
         for foot, place, rest, met in spots:
             met_now = met or (ends and (foot + 1, place + 1) in self.cuts)
             for way in self.ways_on(foot, rest):
-                if way[0] in marks:
-                    found[spot_at(foot, place + 1, way[1:], met_now)] = True
+                if way[0] in marks and (met_now or self.cut_can_come(foot, place + 1)):
+                    found[self.spot_at(foot, place + 1, way[1:], met_now)] = True
         return list(found)
+
+    # Where no cut is met and none can be any more, there's no need to go on.
+    def cut_can_come(self, foot, place):
+        return max(self.cuts) > (foot + 1, place)
+
+    # Where nothing is left of the way, the foot is done.
+    def spot_at(self, foot, place, rest, met):
+        if rest == "":
+            return (foot + 1, 0, "", met)
+        if met or place >= self.last_cuts.get(foot + 1, 0):
+            return (foot, MOST_PLACES, rest, met)
+        return (foot, place, rest, met)
 
     def ways_on(self, foot, rest):
         if rest != "":
